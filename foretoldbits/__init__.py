@@ -1,0 +1,1 @@
+"""lanternwork: the coder. The calls are answered by foretoldbits.coder.answers."""
