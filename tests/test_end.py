@@ -5,7 +5,7 @@ from helper import FIRST, OwnReader, ask, begin, code, end, flat, open_row, plai
 
 
 class ByHand(unittest.TestCase):
-    """Rows worked out from the document with paper and pen."""
+    """Rows worked out by hand from the document; the remarks show the steps."""
 
     def test_no_items(self):
         for lanes in (1, 4, 8, 16):
