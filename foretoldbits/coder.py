@@ -1,19 +1,28 @@
 """The coder: its calls, and how a list of them is answered."""
 
-from foretoldbits.item import all_pieces, items_fit
+from foretoldbits.item import all_pieces, items_fit, kinds_fit
 from foretoldbits.model import models_fit
-from foretoldbits.row import Reader, Writer
+from foretoldbits.reader import Reader
+from foretoldbits.row import Writer
 from foretoldbits.states import fault_place
 
 BEGIN = 0
 PUT = 1
 END = 2
 OPEN = 3
+GET = 4
+DONE = 5
+MODEL = 6
 
 MISSHAPEN = -1
 NOT_NOW = -4
 TOO_MANY = -7
 UNREADABLE = -8
+
+NOT_AT_END = 0
+AT_END = 1
+PUTTING = 2
+IDLE = 3
 
 LANES = (1, 4, 8, 16)
 MOST_PIECES = 1000
@@ -59,7 +68,7 @@ class Coder:
             return [NOT_NOW]
         octets = self.writer.row_coded()
         self.writer = None
-        return [0, len(octets)] + octets
+        return told_list(octets)
 
     def open_row(self, lanes, models, octets):
         if not row_fits(lanes, models) or len(octets) > MOST_BYTES:
@@ -70,6 +79,41 @@ class Coder:
         self.writer = None
         self.reader = Reader(lanes, models, octets)
         return [0]
+
+    def get(self, numbers):
+        if self.reader is None:
+            return [NOT_NOW]
+        if not kinds_fit(numbers, self.reader.row.models):
+            return [MISSHAPEN]
+        return told_list(self.reader.read(numbers))
+
+    def done(self):
+        if self.writer is not None:
+            return [PUTTING]
+        if self.reader is None:
+            return [IDLE]
+        return [AT_END if self.reader.is_at_end() else NOT_AT_END]
+
+    def model(self, k):
+        models = self.models_now()
+        if models is None:
+            return [NOT_NOW]
+        if k >= len(models):
+            return [MISSHAPEN]
+        return told_list(models[k].begins)
+
+    def models_now(self):
+        """The models of the row that is put or read, None if there is none."""
+        if self.writer is not None:
+            return self.writer.row.models
+        if self.reader is not None:
+            return self.reader.row.models
+        return None
+
+
+def told_list(numbers):
+    """The answer that tells a list: a 0, how many numbers it has, and these."""
+    return [0, len(numbers)] + numbers
 
 
 def row_fits(lanes, models):
@@ -112,6 +156,12 @@ def answer_one(coder, walk):
         lanes = walk.take_number()
         models = walk.take_row()
         return coder.open_row(lanes, models, walk.take_row())
+    if call == GET:
+        return coder.get(walk.take_row())
+    if call == DONE:
+        return coder.done()
+    if call == MODEL:
+        return coder.model(walk.take_number())
     raise UnknownCall(f"no call has the number {call}")
 
 

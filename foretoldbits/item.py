@@ -51,6 +51,13 @@ def items_fit(numbers, models):
     return True
 
 
+def kinds_fit(numbers, models):
+    """Whether numbers are the what and of, by turns, of items that there are."""
+    if len(numbers) % 2 != 0:
+        return False
+    return all([kind_fits(what, of, models) for what, of in zip(numbers[0::2], numbers[1::2])])
+
+
 def bit_pieces(bits, value):
     """The lowest so many bits of value as plain items; no bits are none."""
     pieces = []

@@ -24,6 +24,18 @@ class Model:
         behind = self.begins[symbol + 1] if symbol + 1 < self.symbols else PLACES
         return (begin, behind - begin)
 
+    def symbol_at(self, place):
+        """The symbol in whose share the place lies."""
+        symbol = 0
+        behind = self.symbols
+        while behind - symbol > 1:
+            middle = (symbol + behind) // 2
+            if self.begins[middle] <= place:
+                symbol = middle
+            else:
+                behind = middle
+        return symbol
+
     def rate(self):
         # The bit length is 1 + the place of the highest bit.
         return min((self.seen + 2).bit_length(), self.slowness)

@@ -2,7 +2,7 @@
 
 from foretoldbits.item import PIECE_BITS, SYMBOL
 from foretoldbits.model import new_models
-from foretoldbits.states import coded, states_in, words_in
+from foretoldbits.states import coded
 
 
 class Row:
@@ -49,12 +49,3 @@ class Writer:
 
     def row_coded(self):
         return coded(self.shares, self.row.lanes)
-
-
-class Reader:
-    """A row that is read, of bytes that can be."""
-
-    def __init__(self, lanes, numbers, octets):
-        self.row = Row(lanes, numbers)
-        self.states = states_in(octets, lanes)
-        self.words = words_in(octets, lanes)

@@ -26,6 +26,11 @@ def coded(shares, lanes):
     return row_bytes(states, words)
 
 
+def taken_out(state, begin, places):
+    """What the state was ahead of a share that went in, but for a word that went out then."""
+    return places * (state // PLACES) + state % PLACES - begin
+
+
 def is_full(state, places):
     """Whether a share of so many places would bring the state beyond four bytes."""
     return state >= places * FULL

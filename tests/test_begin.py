@@ -1,7 +1,6 @@
 import unittest
 
-from foretoldbits.coder import Coder
-from helper import FIRST, MOST, ask, begin, end, open_row, put
+from helper import FIRST, MOST, ask, begin, done, end, get, model, open_row, put
 
 GOOD = (2, 2)
 
@@ -58,7 +57,8 @@ class Begin(unittest.TestCase):
         self.assertEqual(ask(begin(1, (9, 64))), [[-1]])
 
     def test_whatever_it_did(self):
-        fresh = ask(begin(4, (3, 4)), put(0, 0, 2, 2, 0, 5), end())
+        calls_then = [begin(4, (3, 4)), done(), model(0), put(0, 0, 2, 2, 0, 5), put(0, 0, 2), model(0), end()]
+        fresh = ask(*calls_then)
         before = (
             [end()],
             [begin(1, (2, 2))],
@@ -66,19 +66,20 @@ class Begin(unittest.TestCase):
             [begin(4, (3, 4)), put(0, 0, 1), end()],
             [open_row(1, (2, 2), FIRST)],
             [begin(16, (3, 4)), put(0, 0, 1), open_row(4, (3, 4), FIRST * 4)],
+            # In the middle of a group, behind a stop, at a row's end.
+            [begin(4, (3, 4)), put(*(0, 0, 1) * 6)],
+            [open_row(4, (3, 4), [255] * 16), get(0, 0)],
+            [open_row(4, (3, 4), [255] * 16), get(*(0, 0) * 6)],
+            [open_row(4, (3, 4), [255] * 16), get(*(1, 52) * 6), get(0, 0)],
+            [open_row(4, (3, 4), FIRST * 4), get(0, 0), done()],
         )
         for calls in before:
             with self.subTest(calls=calls):
-                found = ask(*calls, begin(4, (3, 4)), put(0, 0, 2, 2, 0, 5), end())
-                self.assertEqual(found[len(calls):], fresh)
+                self.assertEqual(ask(*calls, *calls_then)[len(calls):], fresh)
 
     def test_it_reads_no_more(self):
-        coder = Coder()
-        self.assertIsNone(coder.reader)
-        coder.open_row(1, [2, 2], FIRST)
-        self.assertIsNotNone(coder.reader)
-        coder.begin(1, [2, 2])
-        self.assertIsNone(coder.reader)
+        found = ask(open_row(1, GOOD, FIRST), done(), begin(1, GOOD), done(), get(), end(), done(), get())
+        self.assertEqual(found, [[0], [1], [0], [2], [-4], [0, 4] + FIRST, [3], [-4]])
 
 
 if __name__ == "__main__":

@@ -1,7 +1,8 @@
 import random
 import unittest
 
-from helper import FIRST, OwnReader, ask, begin, code, end, flat, open_row, plain_count, put, read_items, some_items
+from helper import (FIRST, Lacks, OwnReader, Rows, ask, begin, code, end, flat, open_row, plain_count, put,
+                    read_items, some_items)
 
 
 class ByHand(unittest.TestCase):
@@ -112,74 +113,16 @@ class Answer(unittest.TestCase):
         self.assertEqual(ask(open_row(1, (2, 2), FIRST), end()), [[0], [-4]])
 
 
-class ReadBack(unittest.TestCase):
+class ReadBack(Rows, unittest.TestCase):
     def check(self, lanes, models, items):
         octets = code(lanes, models, items)
         self.assertTrue(all(0 <= octet <= 255 for octet in octets))
         self.assertEqual(read_items(lanes, models, octets, items), (list(items), True))
 
-    def test_bits_of_every_size(self):
-        for lanes in (1, 4, 8, 16):
-            for bits in range(1, 53):
-                with self.subTest(lanes=lanes, bits=bits):
-                    values = (0, 1, 2 ** bits - 1, 2 ** (bits - 1), 0x5A5A5A5A5A5A5 % 2 ** bits)
-                    self.check(lanes, (2, 2), flat([(1, bits, value) for value in values]))
-
-    def test_numbers_of_every_class(self):
-        for lanes in (1, 4, 8, 16):
-            items = []
-            for c in range(52):
-                items += [2, 0, 2 ** c - 1, 2, 0, 2 ** (c + 1) - 2]
-            self.check(lanes, (52, 6), items)
-
-    def test_every_symbol_of_every_n(self):
-        for n in range(2, 65):
-            with self.subTest(n=n):
-                items = flat([(0, 0, s * 7 % n) for s in range(2 * n)])
-                self.check(1, (n, 4), items)
-                self.check(16, (n, 4), items)
-
-    def test_models_that_adapt_over_many_groups(self):
-        chance = random.Random(5)
-        for slowness in range(2, 10):
-            for lanes in (1, 4, 8, 16):
-                with self.subTest(slowness=slowness, lanes=lanes):
-                    low = flat([(0, 0, min(chance.randrange(6), chance.randrange(6))) for _ in range(500)])
-                    high = flat([(0, 0, 5 - min(chance.randrange(6), chance.randrange(6))) for _ in range(500)])
-                    self.check(lanes, (6, slowness), low + high)
-
-    def test_one_symbol_again_and_again_then_another(self):
-        for slowness in range(2, 10):
-            for n in (2, 64):
-                for often, rare in ((0, n - 1), (n - 1, 0)):
-                    with self.subTest(slowness=slowness, n=n, often=often):
-                        self.check(1, (n, slowness), (0, 0, often) * 990 + (0, 0, rare) * 10)
-
     def test_the_slowness_shows(self):
         items = (0, 0, 1) * 500 + (0, 0, 0)
         rows = [code(1, (3, slowness), items) for slowness in range(2, 10)]
         self.assertEqual(len({tuple(row) for row in rows}), 8)
-
-    def test_sixteen_models(self):
-        models = tuple(number for k in range(16) for number in (2 + 4 * k, 2 + k % 8))
-        for lanes in (1, 4, 8, 16):
-            self.check(lanes, models, flat([(0, j % 16, (j * j + 1) % (2 + 4 * (j % 16))) for j in range(900)]))
-
-    def test_a_thousand_plain_items(self):
-        for lanes in (1, 4, 8, 16):
-            self.check(lanes, (2, 2), (1, 52, 2 ** 52 - 1) * 250)
-            self.check(lanes, (2, 9), (0, 0, 1) * 1000)
-
-    def test_items_by_chance(self):
-        chance = random.Random(1)
-        for turn in range(120):
-            lanes = chance.choice((1, 4, 8, 16))
-            models = [chance.randint(2, 64) if k % 2 == 0 else chance.randint(2, 9)
-                      for k in range(2 * chance.randint(1, 16))]
-            items = some_items(chance, models, chance.randint(0, 190))
-            self.assertLessEqual(sum(plain_count(item) for item in items), 1000)
-            with self.subTest(turn=turn):
-                self.check(lanes, models, flat(items))
 
     def test_how_many_are_told(self):
         chance = random.Random(2)
@@ -199,7 +142,7 @@ class ReadBack(unittest.TestCase):
         reader = OwnReader(1, (4, 4), octets)
         try:
             found = [reader.symbol(0) for _ in range(30)]
-        except IndexError:
+        except Lacks:
             return
         self.assertFalse(found == [3] * 30 and reader.at_end())
 

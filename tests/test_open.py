@@ -1,19 +1,17 @@
 import unittest
 
-from foretoldbits.coder import Coder
-from helper import FIRST, MOST, ask, begin, code, end, open_row, put
+from helper import FIRST, HIGH, MOST, ask, begin, code, done, end, get, model, open_row, put
 
 GOOD = (2, 2)
 LOW = [255, 255, 0, 0]
-HIGH = [255, 255, 255, 255]
 
 
 class Opened(unittest.TestCase):
     def test_it_reads(self):
         for lanes in (1, 4, 8, 16):
             with self.subTest(lanes=lanes):
-                found = ask(open_row(lanes, GOOD, FIRST * lanes), put(), end())
-                self.assertEqual(found, [[0], [-4], [-4]])
+                found = ask(open_row(lanes, GOOD, FIRST * lanes), put(), end(), done(), get())
+                self.assertEqual(found, [[0], [-4], [-4], [1], [0, 0]])
 
     def test_what_is_coded_can_be_read(self):
         for lanes in (1, 4, 8, 16):
@@ -26,11 +24,11 @@ class Opened(unittest.TestCase):
         self.assertEqual(ask(open_row(1, GOOD, FIRST), open_row(1, GOOD, HIGH)), [[0], [0]])
 
     def test_states_and_words_are_kept(self):
-        coder = Coder()
-        octets = [1, 2, 3, 4] + FIRST * 2 + HIGH + [5, 6, 0, 1, 255, 0]
-        self.assertEqual(coder.open_row(4, [2, 2], octets), [0])
-        self.assertEqual(coder.reader.states, [0x04030201, 65536, 65536, 2 ** 32 - 1])
-        self.assertEqual(coder.reader.words, [0x0605, 0x0100, 0x00FF])
+        octets = [1, 2, 3, 132] + FIRST * 2 + HIGH + [5, 6, 0, 1, 255, 0, 7, 0, 7, 0]
+        # 15 bits of each state: 0x84030201 leaves 67,590, 2^32 - 1 leaves 131,071, the others 2 and the next word.
+        # Each state wants a word for 15 bits more, and the last has none.
+        found = ask(open_row(4, GOOD, octets), get(*(1, 15) * 8))
+        self.assertEqual(found[1], [0, 7, 0x0201, 0, 0, 0x7FFF, 67590 % 32768, 0x0605, 0x0100])
 
     def test_whatever_it_did(self):
         before = (
@@ -39,11 +37,20 @@ class Opened(unittest.TestCase):
             [begin(1, GOOD), end()],
             [open_row(16, (3, 3), FIRST * 16)],
             [open_row(1, GOOD, [])],
+            # In the middle of a group, behind a stop, at a row's end.
+            [begin(4, GOOD), put(*(0, 0, 1) * 6)],
+            [open_row(4, GOOD, HIGH * 4), get(0, 0)],
+            [open_row(4, GOOD, HIGH * 4), get(*(0, 0) * 6)],
+            [open_row(4, GOOD, HIGH * 4), get(*(1, 52) * 6), get(0, 0)],
+            [open_row(4, GOOD, FIRST * 4), get(0, 0), done()],
         )
+        calls_then = [open_row(4, GOOD, HIGH * 4), put(0, 0, 0), end(), done(), model(0), get(*(0, 0) * 5), model(0),
+                      get(1, 52, 1, 52), done()]
+        fresh = ask(*calls_then)
+        self.assertEqual(fresh[:6], [[0], [-4], [-4], [0], [0, 2, 0, 16384], [0, 5, 1, 1, 1, 1, 1]])
         for calls in before:
             with self.subTest(calls=calls):
-                found = ask(*calls, open_row(4, GOOD, FIRST * 4), put(0, 0, 0), end())
-                self.assertEqual(found[len(calls):], [[0], [-4], [-4]])
+                self.assertEqual(ask(*calls, *calls_then)[len(calls):], fresh)
 
 
 class Misshapen(unittest.TestCase):
